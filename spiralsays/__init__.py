@@ -1,0 +1,1 @@
+"""Spiralsays: studs round a post, told for all turns and rises."""

@@ -1,0 +1,151 @@
+"""What the tests share: wrong values, errors with their fields, fractions."""
+
+from fractions import Fraction
+
+from spiralsays.books import Book
+from spiralsays.nets import Net
+from spiralsays.papers import Denial, Paper
+from spiralsays.ratios import Ratio
+from spiralsays.rows import Row, Told
+from spiralsays.stems import Stem
+from spiralsays.steps import Step
+from spiralsays.tables import Table
+from spiralsays.errors import (
+    BadBook, BadNet, BadNumber, BadRatio, BadRow, BadStem, BadStep, BadTable, BadTold, NoTold,
+)
+
+ROW = Row(1, 0, -1)
+
+ANY = [
+    None, True, False, 0, 1, 5, -3, 10 ** 80, 1.5, "", "1", "1/2", "1 0", b"1", [], (), [1], (1, 2), [None], {},
+    {1: 2}, object(), Ratio(1, 2), Ratio(7), Step(1, 0), Step(0, -2), [Step(1, 0)], Stem(0, 1), Table.same(),
+    Net.first(0), ROW, Told.zero(ROW), [Told.zero(ROW)], (Told.zero(ROW), ROW), Book(), Paper("one"), Denial("two", 1),
+]
+
+
+def is_integer(value):
+    return type(value) is int
+
+
+def is_ratio(value):
+    return type(value) is int or isinstance(value, Ratio)
+
+
+def is_list_of(kind):
+    def holds(value):
+        return isinstance(value, (list, tuple)) and all(isinstance(one, kind) for one in value)
+    return holds
+
+
+def is_a(kind):
+    return lambda value: isinstance(value, kind)
+
+
+# What may be passed for a parameter of a kind, and the error for anything else.
+KINDS = {
+    "integer": (is_integer, BadNumber),
+    "times": (lambda value: is_integer(value) and value != 0, BadNumber),
+    "ratio": (is_ratio, BadNumber),
+    "plain ratio": (is_ratio, BadRatio),
+    "stem ratio": (is_ratio, BadStem),
+    "row ratio": (is_ratio, BadRow),
+    "step integer": (is_integer, BadStep),
+    "step": (is_a(Step), BadStep),
+    "table": (is_a(Table), BadTable),
+    "stem": (is_a(Stem), BadStem),
+    "net": (is_a(Net), BadNet),
+    "row": (is_a(Row), BadRow),
+    "told": (is_a(Told), BadTold),
+    "tolds": (is_list_of(Told), BadBook),
+    "book": (is_a(Book), BadBook),
+    "number": (lambda value: False, NoTold),
+}
+
+
+def fields_of(error):
+    return vars(error)
+
+
+def same(one, other):
+    """Whether two fields are the same, kinds and all: True is not 1, a Ratio is no integer."""
+    if type(one) is not type(other):
+        return False
+    return one is other or one == other
+
+
+def check_raises(case, error, call, *args, **named):
+    """That the call raises an error of just this class, with just these fields."""
+    try:
+        result = call(*args, **named)
+    except type(error) as found:
+        case.assertIs(type(found), type(error))
+        expected = fields_of(error)
+        case.assertEqual(sorted(fields_of(found)), sorted(expected))
+        for name in expected:
+            case.assertTrue(same(getattr(found, name), expected[name]), (error, name, getattr(found, name)))
+    else:
+        case.fail(f"{error!r} is not raised for {args!r}, but {result!r} is returned")
+
+
+def check_wrong(case, call, *params):
+    """That each parameter (name, kind, good value) refuses what it must, and the first wrong one comes first."""
+    for at, (name, kind, _) in enumerate(params):
+        takes, error = KINDS[kind]
+        for value in ANY:
+            if takes(value):
+                continue
+            due = error(value) if kind == "number" else error(name)
+            for rest in ("good", "bad"):
+                args = [good for _, _, good in params]
+                args[at] = value
+                if rest == "bad":
+                    # Whatever follows is wrong, too: this parameter's error comes first.
+                    args[at + 1:] = [object() for _ in params[at + 1:]]
+                check_raises(case, due, call, *args)
+
+
+def fraction(ratio):
+    return Fraction(ratio) if type(ratio) is int else Fraction(ratio.top, ratio.bottom)
+
+
+def ratio(value):
+    value = Fraction(value)
+    return Ratio(value.numerator, value.denominator)
+
+
+def worth(told, stem):
+    row = told.row
+    return fraction(row.a) * fraction(stem.squared) + fraction(row.b) * fraction(stem.turn) + fraction(row.c)
+
+
+def keeps(stem, told):
+    """Whether a stem keeps told ones, reckoned without the program."""
+    for one in told:
+        value = worth(one, stem)
+        if not (value == 0 if one.kind == "zero" else value > 0 if one.kind == "above" else value >= 0):
+            return False
+    return fraction(stem.squared) > fraction(stem.turn) ** 2
+
+
+def total(told, weights):
+    """The three sums of rows times weights, reckoned without the program."""
+    rows = [(fraction(one.row.a), fraction(one.row.b), fraction(one.row.c)) for one in told]
+    return tuple(sum(fraction(weight) * row[at] for weight, row in zip(weights, rows)) for at in range(3))
+
+
+def is_one_step(told, paper):
+    """Whether a OneStep with parts of the right kinds is right, reckoned without the program."""
+    told = list(told)
+    if len(paper.weights) != len(told):
+        return False
+    if any(one.kind != "zero" and fraction(weight) < 0 for one, weight in zip(told, paper.weights)):
+        return False
+    times, rest = fraction(paper.times), fraction(paper.rest)
+    if times < 0 or rest < 0 or (paper.step is None) != (times == 0):
+        return False
+    studs, rounds = (0, 0) if paper.step is None else (paper.step.studs, paper.step.rounds)
+    if paper.step is not None and studs <= 0:
+        return False
+    due = (-times * studs * studs, 2 * times * studs * rounds, -times * rounds * rounds - rest)
+    strict = any(one.kind == "above" and fraction(weight) > 0 for one, weight in zip(told, paper.weights))
+    return total(told, paper.weights) == due and (times > 0 or rest > 0 or strict)
