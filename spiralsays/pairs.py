@@ -20,8 +20,6 @@ def need_neighbours(one, other):
 
 
 def between(one, other):
-    need_step(one, "one")
-    need_step(other, "other")
     need_neighbours(one, other)
     return one + other
 

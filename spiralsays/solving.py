@@ -93,7 +93,7 @@ def solved_without_end(limits):
     """No limit bounds E: each one with an E is kept by a great one."""
     span = Span([cut_of_turns(limit) for limit in limits if limit.a == 0])
     if len(span.against) > 0:
-        return Never([(cut.limit, weight) for cut, weight in span.against])
+        return Never([(cut.limit, weight * cut.own) for cut, weight in span.against])
     end = span.high if span.low is None else span.low
     return Boundless(Place(0, 0, 1) if end is None else end.place())
 

@@ -35,6 +35,13 @@ BY_HAND = [
     (book("least -1 1 0 , least -1 -1 0"), False), (book("least 1 1 0 , least 1 -1 0"), True),
     # The same thing told twice and with other measures.
     (book("above -1 0 1 , above -1 0 1 , least -2 0 2"), True), (book("above 1 0 -1 , above 1 0 -1 , least -2 0 2"), False),
+    # One end told least and above, either first: it does not belong to what is left.
+    (book("least 1 0 -1 , above 1 0 -1 , zero 0 1 0"), True), (book("above 1 0 -1 , least 1 0 -1 , zero 0 1 0"), True),
+    (book("above 1 0 -2/3 , least -1 0 1 , above -1 0 1 , zero 0 1 0"), True), (book("above 1 0 -2/3 , above -1 0 1 , least -1 0 1 , zero 0 1 0"), True),
+    (book("least 0 1 -1 , above 0 1 -1"), True), (book("above 0 1 -1 , least 0 1 -1"), True),
+    # A row from below holds the place, close to where E - D D would be greatest on its line.
+    (book("above 2 -5 -5 , least -1 2 3 , above 2 -2 2 , least 2 5 2"), True), (book("least 2 -5 -5 , above -1 2 3"), True),
+    (book("least 4 -3 2 , least 0 -5 1 , least 1 5 1 , above -1 -4 1"), True), (book("above -1 4 4 , least 4 0 0 , above 1 -5 -2"), True),
     # Ends that are no fractions.
     (book("zero -1 0 2"), True), (book("zero -1 0 1/2 , above 0 1 -7071/10000"), True), (book("zero -1 0 1/2 , above 0 1 -442/625"), False),
     # Far turns and negative ones.
@@ -70,7 +77,23 @@ def made_up(seed, many, digits=1):
     return books
 
 
-MADE_UP = made_up(1, 400) + made_up(2, 60, 4)
+def through_one_place(seed, many):
+    """Books whose rows are all 0 at one place: what is above decides by trifles."""
+    chance = random.Random(seed)
+    books = []
+    for _ in range(many):
+        turn = Ratio(chance.randint(-3, 3), chance.randint(1, 3))
+        squared = turn * turn + Ratio(chance.randint(0, 3), chance.randint(1, 3))
+        told = []
+        for _ in range(chance.randint(2, 6)):
+            a, b = chance.randint(-3, 3), chance.randint(-3, 3)
+            row = Row(a, b, -(squared * a + turn * b)) * Ratio(chance.randint(1, 5), chance.randint(1, 5))
+            told.append(Told(chance.choice(["zero", "least", "above", "above", "above"]), row))
+        books.append(Book(told))
+    return books
+
+
+MADE_UP = made_up(1, 1500) + made_up(2, 60, 4) + through_one_place(3, 600)
 
 # By the document.
 A, B, C = Step(3, 1), Step(1, 0), Step(2, 1)
