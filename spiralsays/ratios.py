@@ -66,10 +66,9 @@ class Ratio:
         return bool(self.top)
 
     def __eq__(self, other):
-        if not is_ratio(other):
-            return False
-        right = at_right(other)
-        return self.top == right.top and self.bottom == right.bottom
+        if isinstance(other, Ratio):
+            return self.top == other.top and self.bottom == other.bottom
+        return is_integer(other) and self.bottom == 1 and self.top == other
 
     def __str__(self):
         if self.bottom == 1:
