@@ -4,7 +4,7 @@ from spiralsays.books import need_book
 from spiralsays.fits import Kept, Simplest, simpler_beside, told_at_least, told_at_most
 from spiralsays.ratios import Ratio, is_ratio
 from spiralsays.rises import Endless, Highest
-from spiralsays.rows import Row
+from spiralsays.rows import Row, bounds_squared
 from spiralsays.stems import Stem
 from spiralsays.sums import are_weights, is_right, is_step_with_studs, weighted
 
@@ -40,10 +40,6 @@ def shows_rise(book, value):
     if isinstance(value, Endless):
         return value.stem in book and not any([bounds_squared(one) for one in book.told])
     return isinstance(value, Highest) and is_highest(book, value)
-
-
-def bounds_squared(told):
-    return told.row.a.sign < 0 or (told.kind == "zero" and told.row.a.sign != 0)
 
 
 def is_highest(book, paper):

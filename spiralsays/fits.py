@@ -96,13 +96,25 @@ def fit_of(told):
     return Kept(simplest_stem(limits, Place(spot.turn, spot.turn_drift, spot.bottom)))
 
 
+def is_possible(told):
+    """Whether some stem keeps told ones, be there ever so many."""
+    return leaves_any(solved(limits_of(told)))
+
+
+def leaves_any(found):
+    """Whether what was solved leaves a stem."""
+    if isinstance(found, Never):
+        return False
+    return not isinstance(found, Summit) or bound_at(found.spot).sign > 0
+
+
 def denial_of(told, found):
     """The OneStep of what was solved, None if a stem is left."""
+    if leaves_any(found):
+        return None
     if isinstance(found, Never):
         return sum_below(len(told), found.pairs)
-    if isinstance(found, Summit) and bound_at(found.spot).sign <= 0:
-        return step_below(len(told), found)
-    return None
+    return step_below(len(told), found)
 
 
 def sum_below(many, pairs):

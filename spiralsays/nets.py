@@ -89,6 +89,11 @@ def level_of(low, high):
     return level
 
 
+def need_net(value, part):
+    if not isinstance(value, Net):
+        raise BadNet(part)
+
+
 def take_net(words):
     studs = words.integer()
     if studs < 1:

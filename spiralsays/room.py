@@ -45,7 +45,7 @@ class Squares:
             if far > 0 or (far == 0 and not end.is_in):
                 self.high = end
 
-    def side(self, top, bottom):
+    def side_of(self, top, bottom):
         asked = End(top, bottom, True)
         far = compared_ends(asked, self.low)
         if far < 0 or (far == 0 and not self.low.is_in):
@@ -63,7 +63,7 @@ class Turns:
         self.limits = limits
         self.at_hand = at_hand
 
-    def side(self, top, bottom):
+    def side_of(self, top, bottom):
         if not Squares(self.limits, top, bottom).is_empty:
             return 0
         far = top * self.at_hand.bottom - self.at_hand.number * bottom

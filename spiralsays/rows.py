@@ -134,6 +134,11 @@ def need_told(value, part):
         raise BadTold(part)
 
 
+def bounds_squared(told):
+    """Whether a told one bounds E, the greater ones being left out from some on."""
+    return told.row.a.sign < 0 or (told.kind == "zero" and told.row.a.sign != 0)
+
+
 def take_row(words):
     a = take_ratio(words)
     b = take_ratio(words)

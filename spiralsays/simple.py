@@ -1,6 +1,6 @@
 """The simplest ratio of a stretch that is known by its sides alone.
 
-A stretch is any object with side(top, bottom), bottom above 0: -1 if this ratio
+A stretch is any object with side_of(top, bottom), bottom above 0: -1 if this ratio
 lies below the stretch, 0 if it is in it, 1 if it lies above. So its ends need
 be no ratios.
 """
@@ -14,13 +14,13 @@ class Turned:
     def __init__(self, stretch):
         self.stretch = stretch
 
-    def side(self, top, bottom):
-        return -self.stretch.side(-top, bottom)
+    def side_of(self, top, bottom):
+        return -self.stretch.side_of(-top, bottom)
 
 
 def simplest_in(stretch):
     """The ratio of least bottom in a stretch, of whole ones that of least absolute value."""
-    side = stretch.side(0, 1)
+    side = stretch.side_of(0, 1)
     if side == 0:
         return Ratio(0)
     if side > 0:
@@ -31,7 +31,7 @@ def simplest_in(stretch):
 def simplest_above(stretch):
     """The same of a stretch that lies above 0."""
     whole = first_reached(stretch, (0, 1), (1, 0))
-    if stretch.side(whole, 1) == 0:
+    if stretch.side_of(whole, 1) == 0:
         return Ratio(whole)
     low, high = (whole - 1, 1), (whole, 1)
     turned = Turned(stretch)
@@ -39,12 +39,12 @@ def simplest_above(stretch):
         # Towards low until the stretch is not below any more, then towards high.
         times = first_reached(turned, (-high[0], high[1]), (-low[0], low[1]))
         last = on_the_way(high, low, times)
-        if stretch.side(last[0], last[1]) == 0:
+        if stretch.side_of(last[0], last[1]) == 0:
             return Ratio(last[0], last[1])
         low, high = last, on_the_way(high, low, times - 1)
         times = first_reached(stretch, low, high)
         last = on_the_way(low, high, times)
-        if stretch.side(last[0], last[1]) == 0:
+        if stretch.side_of(last[0], last[1]) == 0:
             return Ratio(last[0], last[1])
         low, high = on_the_way(low, high, times - 1), last
 
@@ -69,4 +69,4 @@ def first_reached(stretch, start, aim):
 
 
 def is_below(stretch, ratio):
-    return stretch.side(ratio[0], ratio[1]) < 0
+    return stretch.side_of(ratio[0], ratio[1]) < 0

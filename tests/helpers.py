@@ -3,15 +3,22 @@
 from fractions import Fraction
 
 from spiralsays.books import Book
+from spiralsays.counted import Counted, NearerStud, OneWay, RightLeft, SeenBoth
+from spiralsays.heights import Heights, Tie
 from spiralsays.nets import Net
 from spiralsays.papers import Denial, Paper
 from spiralsays.ratios import Ratio
+from spiralsays.roads import Road
 from spiralsays.rows import Row, Told
+from spiralsays.sayings import IsNet, LeansRight, Rows, Saying, Shorter, TurnIs
 from spiralsays.stems import Stem
 from spiralsays.steps import Step
 from spiralsays.tables import Table
+from spiralsays.told_counts import CountBook
+from spiralsays.windows import Window
 from spiralsays.errors import (
-    BadBook, BadNet, BadNumber, BadRatio, BadRow, BadStem, BadStep, BadTable, BadTold, NoTold,
+    BadBook, BadCounted, BadHeights, BadNet, BadNumber, BadRatio, BadRoad, BadRow, BadSaying, BadStem, BadStep, BadTable,
+    BadTie, BadTold, BadWindow, NoHeight, NoTold,
 )
 
 ROW = Row(1, 0, -1)
@@ -20,6 +27,10 @@ ANY = [
     None, True, False, 0, 1, 5, -3, 10 ** 80, 1.5, "", "1", "1/2", "1 0", b"1", [], (), [1], (1, 2), [None], {},
     {1: 2}, object(), Ratio(1, 2), Ratio(7), Step(1, 0), Step(0, -2), [Step(1, 0)], Stem(0, 1), Table.same(),
     Net.first(0), ROW, Told.zero(ROW), [Told.zero(ROW)], (Told.zero(ROW), ROW), Book(), Paper("one"), Denial("two", 1),
+    Shorter(Step(1, 0), Step(2, 1)), LeansRight(Step(3, 1)), TurnIs(Ratio(1, 3)), Rows([Told.zero(ROW)]), [IsNet(Net.first(0))],
+    Road(0, [1, 1], "open"), Road(1, [], "edge"), Window(0, 1), RightLeft(3, 2), OneWay(5, "left"), [SeenBoth(2, 3)],
+    (NearerStud(1, 2), OneWay(1, "right")), CountBook(Book(), Window(0, 1), [RightLeft(3, 2)]), Tie(0, 1, "zero"), [Tie(0, 1, "above")],
+    Heights([Book()]), [Book(), Book()],
 ]
 
 
@@ -59,6 +70,23 @@ KINDS = {
     "tolds": (is_list_of(Told), BadBook),
     "book": (is_a(Book), BadBook),
     "number": (lambda value: False, NoTold),
+    "saying": (is_a(Saying), BadSaying),
+    "sayings": (is_list_of(Saying), BadSaying),
+    "saying's tolds": (lambda value: is_list_of(Told)(value) and len(value) > 0, BadTold),
+    "length": (lambda value: is_ratio(value) and (value if type(value) is int else value.top) >= 0, BadNumber),
+    "road": (is_a(Road), BadRoad),
+    "window": (is_a(Window), BadWindow),
+    "window ratio": (is_ratio, BadWindow),
+    "things": (is_list_of(Counted), BadCounted),
+    "some things": (lambda value: is_list_of(Counted)(value) and len(value) > 0, BadCounted),
+    "count": (lambda value: is_integer(value) and 1 <= value <= 21, BadCounted),
+    "count book": (is_a(CountBook), BadCounted),
+    "saying or thing": (is_a((Saying, Counted)), BadSaying),
+    "heights": (is_a(Heights), BadHeights),
+    "tie": (is_a(Tie), BadTie),
+    "height of two": (lambda value: is_integer(value) and 0 <= value < 2, NoHeight),
+    "books": (lambda value: is_list_of(Book)(value) and len(value) > 0, BadBook),
+    "ties": (is_list_of(Tie), BadTie),
 }
 
 
@@ -87,14 +115,19 @@ def check_raises(case, error, call, *args, **named):
         case.fail(f"{error!r} is not raised for {args!r}, but {result!r} is returned")
 
 
+def up_to(least, most):
+    """The kind of integers from least to most."""
+    return (lambda value: is_integer(value) and least <= value <= most, BadNumber)
+
+
 def check_wrong(case, call, *params):
     """That each parameter (name, kind, good value) refuses what it must, and the first wrong one comes first."""
     for at, (name, kind, _) in enumerate(params):
-        takes, error = KINDS[kind]
+        takes, error = kind if isinstance(kind, tuple) else KINDS[kind]
         for value in ANY:
             if takes(value):
                 continue
-            due = error(value) if kind == "number" else error(name)
+            due = error(value) if error in (NoTold, NoHeight) else error(name)
             for rest in ("good", "bad"):
                 args = [good for _, _, good in params]
                 args[at] = value
@@ -149,3 +182,28 @@ def is_one_step(told, paper):
     due = (-times * studs * studs, 2 * times * studs * rounds, -times * rounds * rounds - rest)
     strict = any(one.kind == "above" and fraction(weight) > 0 for one, weight in zip(told, paper.weights))
     return total(told, paper.weights) == due and (times > 0 or rest > 0 or strict)
+
+
+def products(stem, net):
+    """low . high, low . third, high . third, reckoned without the program."""
+    def of(one, other):
+        turn, squared = fraction(stem.turn), fraction(stem.squared)
+        return one.studs * other.studs * squared - (one.studs * other.rounds + other.studs * one.rounds) * turn + one.rounds * other.rounds
+    low, high = net.low, net.high
+    third = type(low)(low.studs + high.studs, low.rounds + high.rounds)
+    return of(low, high), of(low, third), of(high, third)
+
+
+def has_net(stem, net):
+    flat, one, other = products(stem, net)
+    return flat <= 0 and one >= 0 and other >= 0
+
+
+def is_nearest(stem, one, other):
+    """Whether two steps are the nearest two of a stem, in this order, reckoned without the program."""
+    turn, squared = fraction(stem.turn), fraction(stem.squared)
+    k, j, m, i = one.studs, one.rounds, other.studs, other.rounds
+    first = k * k * squared - 2 * k * j * turn + j * j
+    second = m * m * squared - 2 * m * i * turn + i * i
+    product = k * m * squared - (k * i + m * j) * turn + j * i
+    return abs(k * i - m * j) == 1 and first <= second and abs(2 * product) <= first

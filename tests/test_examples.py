@@ -63,7 +63,9 @@ class Examples(unittest.TestCase):
     def test_there_are_some_of_each_part(self):
         parts = [part for part, _, answer in examples() if answer is not None]
         for part in (
-            "ratios papers steps pairs tables fractions stems nets laid stem_nets spirals check_stems rows fits rises"
+            "ratios papers steps pairs tables fractions stems nets laid stem_nets spirals check_stems rows fits rises "
+            "sayings words several tight check_words net_words map_pieces check_nets roads "
+            "falling turns check_roads windows counted cuts told_counts check_counts heights ties"
         ).split():
             self.assertIn(part, parts)
 

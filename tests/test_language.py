@@ -240,6 +240,28 @@ LISTED = {
     "books": {"Book": "__init__ __len__ __iter__ __contains__ with_told without joined __eq__ __str__ read"},
     "fits": {"Kept": "__init__", "Simplest": "__init__", "OneStep": "__init__"},
     "rises": {"Highest": "__init__", "Endless": "__init__", "Reached": "__init__", "NotReached": "__init__"},
+    "sayings": {"Saying": "__eq__ __str__ read"} | {
+        name: "__init__ __eq__ __str__" for name in (
+            "Shorter AsLong Sharp RightAngle Blunt LeansRight StraightUp LeansLeft Steeper NoLonger Longer TurnAtMost TurnBelow "
+            "TurnAtLeast TurnAbove TurnIs IsNet Nearest Rows"
+        ).split()
+    },
+    "words": {"Always": "__init__", "Nowhere": "__init__", "Both": "__init__"},
+    "tight": {"Tight": "__init__"},
+    "net_words": {"SureNet": "__init__", "Unsure": "__init__"},
+    "map_pieces": {"SureNearest": "__init__"},
+    "roads": {"Road": "__init__ __eq__ __str__ read"},
+    "turns": {"SureRoad": "__init__", "Ended": "__init__", "Roadless": "__init__"},
+    "windows": {"Window": "__init__ __contains__ __eq__ __str__ read"},
+    "counted": {"Counted": "holds __eq__ __str__ read"} | {
+        name: "__init__ holds __eq__ __str__" for name in ("RightLeft", "SeenBoth", "OneWay", "NearerStud")
+    },
+    "cuts": {"Stretch": "__init__ __eq__"},
+    "told_counts": {"CountBook": "__init__ __contains__ __eq__", "KeptCounts": "__init__", "NoStretch": "__init__"},
+    "heights": {
+        "Tie": "__init__ contrary __eq__ __str__ read",
+        "Heights": "__init__ __len__ with_told with_tie alone holds __eq__ __str__ read",
+    },
 }
 FUNCTIONS = {
     "checks": "is_integer is_within is_name", "ratios": "is_ratio added least_of greatest_of", "papers": "fixed",
@@ -247,6 +269,11 @@ FUNCTIONS = {
     "laid": "place nearest_rounds laid first_within", "stem_nets": "nets_of nearest_two by_length", "spirals": "family seen",
     "check_stems": "shows_nets shows_nearest", "fits": "fit need_possible simplest_turn with_turn_at_most with_turn_at_least",
     "rises": "greatest_rise reached", "check_fits": "shows_fit shows_simplest shows_rise",
+    "words": "word_of", "several": "words_of together", "tight": "tightest", "check_words": "shows_word shows_tight",
+    "net_words": "sure_net nets_that_come", "map_pieces": "piece sure_nearest", "check_nets": "shows_sure_net shows_sure_nearest",
+    "roads": "road_of road_at net_at turns_of is_ahead common", "falling": "falling nets_between", "turns": "sure_road",
+    "check_roads": "shows_road", "cuts": "cuts stretches", "told_counts": "fit_counts word_counts",
+    "check_counts": "shows_counts shows_word_counts", "ties": "tied equal_heights",
 }
 
 
