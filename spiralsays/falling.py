@@ -25,7 +25,7 @@ def falling(turn, many):
 
 def left_at(net, turn):
     """The E at which a net of this turn is left, None if it is the last one."""
-    if turn.is_whole or net.third.corner == turn:
+    if net.third.corner == turn:
         return None
     kept = net.high if leads_high(net, turn) else net.low
     # There the product of third and the step that stays is 0.
@@ -35,8 +35,8 @@ def left_at(net, turn):
 
 
 def leads_high(net, turn):
-    """Whether the way goes on with third and high; a first net has one way on alone."""
-    return not net.high.is_round and net.third.corner.is_below(turn)
+    """Whether the way goes on with third and high; behind a first net it never does."""
+    return net.third.corner.is_below(turn)
 
 
 def net_behind(net, turn):

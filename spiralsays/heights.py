@@ -4,7 +4,7 @@ from spiralsays.books import Book, take_book
 from spiralsays.checks import is_list, is_within
 from spiralsays.errors import BadBook, BadHeights, BadNumber, BadTie, NoHeight, TooMany
 from spiralsays.ratios import Ratio, is_ratio, need_ratio
-from spiralsays.rows import KINDS, need_told
+from spiralsays.rows import KINDS
 from spiralsays.stems import Stem
 from spiralsays.texts import read_whole
 
@@ -68,7 +68,6 @@ class Heights:
 
     def with_told(self, height, told):
         need_height(self, height)
-        need_told(told, "told")
         more = self.books[height].with_told(told)
         return Heights(self.books[:height] + (more,) + self.books[height + 1:], self.ties)
 
@@ -96,15 +95,21 @@ class Heights:
         return isinstance(other, Heights) and self.books == other.books and self.ties == other.ties
 
     def __str__(self):
-        books = " | ".join([str(one) for one in self.books])
         if len(self.ties) == 0:
-            return books
-        ties = " , ".join([str(one) for one in self.ties])
-        return f"{books} ; {ties}"
+            return str(text_of_books(self.books))
+        return f"{text_of_books(self.books)} ; {text_of_ties(self.ties)}"
 
     @classmethod
     def read(cls, text):
         return read_whole(text, take_heights)
+
+
+def text_of_books(books):
+    return " | ".join([str(one) for one in books])
+
+
+def text_of_ties(ties):
+    return " , ".join([str(one) for one in ties])
 
 
 def is_kept_tie(tie, squares):

@@ -3,7 +3,6 @@
 from spiralsays.books import Book, need_book
 from spiralsays.check_stems import shows_nearest
 from spiralsays.fits import fit_of, need_possible
-from spiralsays.nets import need_net
 from spiralsays.net_words import apart
 from spiralsays.papers import Paper
 from spiralsays.ratios import Ratio
@@ -24,7 +23,6 @@ class SureNearest(Paper):
 
 def piece(book, net):
     need_book(book, "book")
-    need_net(net, "net")
     return book.joined(Book(IsNet(net).told))
 
 

@@ -37,7 +37,7 @@ class Road:
         return self.whole == other.whole and self.runs == other.runs and self.kind == other.kind
 
     def __str__(self):
-        return " ".join([str(self.whole), self.kind] + [str(run) for run in self.runs])
+        return " ".join(words_of_road(self))
 
     @classmethod
     def read(cls, text):
@@ -51,6 +51,10 @@ def are_runs(value):
     if len(value) == 0:
         return True
     return value[0] >= (1 if len(value) == 1 else 0) and all([run >= 1 for run in value[1:]])
+
+
+def words_of_road(road):
+    return [str(road.whole), road.kind] + [str(run) for run in road.runs]
 
 
 def need_road(value, part):

@@ -129,8 +129,6 @@ class LeansLeft(Saying):
 class Steeper(Saying):
     def __init__(self, one, other):
         self.one, self.other = two_steps(one, other)
-        need_studs(one, "one")
-        need_studs(other, "other")
         self.told = (Told.above(Row.of_steeper(one, other)),)
 
     def __eq__(self, other):
@@ -267,8 +265,7 @@ class Rows(Saying):
         return isinstance(other, Rows) and self.told == other.told
 
     def __str__(self):
-        told = " , ".join([str(one) for one in self.told])
-        return f"rows {told}"
+        return " ".join(["rows", " , ".join([str(one) for one in self.told])])
 
 
 def two_steps(one, other):

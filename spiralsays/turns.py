@@ -1,6 +1,5 @@
 """The road of a book: the way of the nets that all its turns have in common."""
 
-from spiralsays.books import need_book
 from spiralsays.fits import fit_of, simplest_turn
 from spiralsays.fractions import runs_of
 from spiralsays.papers import Denial, Paper
@@ -33,7 +32,6 @@ class Roadless(Denial):
 
 
 def sure_road(book):
-    need_book(book, "book")
     simple = simplest_turn(book)
     stem, turn = simple.stem, simple.turn
     below = fit_of(book.told + TurnBelow(turn).told)

@@ -13,11 +13,11 @@ from helpers import fraction, ratio
 THINGS = [RightLeft(right, left) for right, left in ((1, 1), (1, 2), (2, 1), (3, 2), (2, 3), (8, 5), (5, 8), (21, 13), (1, 21), (20, 21), (4, 9))]
 THINGS += [SeenBoth(right, left) for right, left in ((1, 1), (1, 2), (2, 1), (3, 2), (3, 1), (5, 8), (8, 5), (1, 4), (13, 21))]
 THINGS += [OneWay(studs, side) for studs in (1, 2, 3, 4, 6, 8, 21) for side in ("right", "left")]
-THINGS += [NearerStud(one, other) for one, other in ((1, 2), (2, 1), (3, 5), (5, 3), (5, 8), (6, 4), (21, 20), (7, 14))]
+THINGS += [NearerStud(one, other) for one, other in ((1, 2), (2, 1), (3, 2), (3, 5), (5, 3), (5, 8), (6, 4), (21, 20), (7, 14))]
 
 WINDOWS = [
     # A round wide, from a corner, a tie, a little behind one; to such; narrow ones.
-    Window(0, 1), Window(Ratio(1, 2), Ratio(3, 2)), Window(Ratio(-1, 3), Ratio(2, 3)), Window(Ratio(1, 6), Ratio(1, 3)), Window(Ratio(1, 3), Ratio(1, 2)),
+    Window(0, 1), Window(0, Ratio(1, 2)), Window(Ratio(1, 2), Ratio(3, 2)), Window(Ratio(-1, 3), Ratio(2, 3)), Window(Ratio(1, 6), Ratio(1, 3)), Window(Ratio(1, 3), Ratio(1, 2)),
     Window(Ratio(3, 8), Ratio(2, 5)), Window(Ratio(1001, 6000), Ratio(1, 3)), Window(Ratio(-5, 2), Ratio(-2)), Window(Ratio(1, 4), Ratio(5, 16)), Window(7, Ratio(15, 2)),
     Window(Ratio(5, 13), Ratio(5, 13) + Ratio(1, 10 ** 6)), Window(Ratio(499, 1000), Ratio(501, 1000)), Window(Ratio(1, 10), 1),
 ]

@@ -201,9 +201,11 @@ def has_net(stem, net):
 
 def is_nearest(stem, one, other):
     """Whether two steps are the nearest two of a stem, in this order, reckoned without the program."""
-    turn, squared = fraction(stem.turn), fraction(stem.squared)
     k, j, m, i = one.studs, one.rounds, other.studs, other.rounds
+    if abs(k * i - m * j) != 1:
+        return False
+    turn, squared = fraction(stem.turn), fraction(stem.squared)
     first = k * k * squared - 2 * k * j * turn + j * j
     second = m * m * squared - 2 * m * i * turn + i * i
     product = k * m * squared - (k * i + m * j) * turn + j * i
-    return abs(k * i - m * j) == 1 and first <= second and abs(2 * product) <= first
+    return first <= second and abs(2 * product) <= first

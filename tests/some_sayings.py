@@ -19,7 +19,7 @@ OF_RATIOS = (TurnAtMost, TurnBelow, TurnAtLeast, TurnAbove, TurnIs)
 # Steps may be any ones: the round, one step twice, a step and its opposite, downward ones, with a divisor.
 PAIRS = [(A, C), (C, A), (A, B), (A, ROUND), (ROUND, A), (A, A), (C, DOWN), (DOWN, FIVE), (Step(4, 2), Step(-3, 2)), (ROUND, ROUND), (-ROUND, B)]
 WITH_STUDS = [(one, other) for one, other in PAIRS if one.studs != 0 and other.studs != 0]
-NEIGHBOURS = [(A, C), (C, A), (B, ROUND), (ROUND, B), (-A, C), (FIVE, A), (DOWN, A), (Step(1, 7), -ROUND)]
+NEIGHBOURS = [(A, C), (A, FIVE), (C, A), (B, ROUND), (ROUND, B), (-A, C), (FIVE, A), (DOWN, A), (Step(1, 7), -ROUND)]
 LENGTHS = [0, Ratio(1, 3), 2, Ratio(5, 7)]
 RATIOS = [0, Ratio(-7, 3), 5, Ratio(3, 8), -2]
 NETS = [Net.first(0), Net.first(-3), Net(B, C), Net(A, C), Net(Step(5, -2), Step(3, -1))]

@@ -76,11 +76,12 @@ class ShowsCounts(unittest.TestCase):
         # A book that denies all cases by itself; things that have a piece in each stretch.
         denied = CountBook(BLUNT, UNIT, [NearerStud(21, 20), NearerStud(19, 17), NearerStud(13, 11), NearerStud(18, 16)])
         own = lambda more: OneStep([1, 1] + [0] * (6 + more), A, 1, 0)
-        many = [many for many in range(300) if shows_counts(denied, NoStretch([own(0)] * many))]
-        self.assertEqual(many, [len(cuts(denied.things, UNIT)) + 1])
-        self.assertGreater(many[0], 102)
-        self.assertIs(shows_word_counts(denied, TurnBelow(0), Always([[[own(1)]]] * many[0])), True)
-        self.assertIs(shows_word_counts(denied, TurnBelow(0), Nowhere([own(1)] * many[0])), True)
+        many = len(cuts(denied.things, UNIT)) + 1
+        self.assertGreater(many, 102)
+        for number in (many - 1, many, many + 1):
+            self.assertIs(shows_counts(denied, NoStretch([own(0)] * number)), number == many)
+        self.assertIs(shows_word_counts(denied, TurnBelow(0), Always([[[own(1)]]] * many)), True)
+        self.assertIs(shows_word_counts(denied, TurnBelow(0), Nowhere([own(1)] * many)), True)
 
     def test_other_values(self):
         for count_book in FEW:

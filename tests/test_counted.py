@@ -221,6 +221,8 @@ class Stretches(unittest.TestCase):
             self.assertIs(one == value, False)
         for things, window in (([OneWay(1, "left")], Window(0, 1)), ([], Window(0, Ratio(1, 2))), ([OneWay(1, "right")], Window(Ratio(1, 10), 1))):
             self.assertFalse(one == stretches(things, window)[0])
+        for window, due in ((Window(0, Ratio(1, 2)), True), (Window(0, Ratio(1, 3)), False), (Window(Ratio(1, 3), Ratio(1, 2)), False)):
+            self.assertIs(stretches([], window) == stretches([], Window(0, Ratio(1, 2))), due)
 
 
 if __name__ == "__main__":

@@ -34,6 +34,20 @@ STATEMENTS = (
 )
 
 
+QUIET = ("__str__", "__repr__", "__eq__", "__len__", "__bool__", "__contains__")
+
+
+def is_text(node):
+    """Whether an expression surely is a string: a literal, an f-string, str(..), repr(..), the join of a literal."""
+    if isinstance(node, ast.JoinedStr) or (isinstance(node, ast.Constant) and isinstance(node.value, str)):
+        return True
+    if not isinstance(node, ast.Call):
+        return False
+    if isinstance(node.func, ast.Name):
+        return node.func.id in ("str", "repr")
+    return node.func.attr == "join" and isinstance(node.func.value, ast.Constant)
+
+
 def sources():
     found = {}
     for file in sorted(os.listdir(PACKAGE)):
@@ -218,6 +232,19 @@ class Language(unittest.TestCase):
         self.assertFalse(plain & attributes)
         self.assertFalse(decorated & attributes)
         self.assertFalse(plain & decorated)
+
+    def test_texts_and_comparisons_assign_nothing(self):
+        for one in classes():
+            for node in one.body:
+                if not isinstance(node, ast.FunctionDef) or node.name not in QUIET:
+                    continue
+                where = f"{one.name} {node.name}"
+                for part in ast.walk(node):
+                    self.assertNotIsInstance(part, (ast.Assign, ast.AugAssign, ast.NamedExpr, ast.Delete), where)
+                    if isinstance(part, ast.BinOp) and node.name in ("__str__", "__repr__"):
+                        self.fail(where)
+                    if isinstance(part, ast.Return) and node.name in ("__str__", "__repr__"):
+                        self.assertTrue(is_text(part.value), where)
 
     def test_comparing_classes_are_no_keys(self):
         for one in classes():

@@ -177,6 +177,16 @@ class NetsThatCome(unittest.TestCase):
         found = self.check(book, 0, 1, 60)
         self.assertGreater(found[0].level, 100)
         self.assertFalse(fit(Book(book.told + IsNet(found[0].parent).told)))
+        # The uppermost one above that of the simplest stem, no letter or one letter on.
+        for text, due in (("zero 0 1 -3/8 , least 1 0 -1/7 , least -1 0 19/100", "1 0 1 1"), ("zero 0 1 -3/8 , least 1 0 -1417/10000 , least -1 0 147/1000", "1 0 2 1")):
+            found = self.check(Book.read(text), 0, 1, 60)
+            self.assertEqual(str(found[0]), due)
+            self.assertGreater(nets_of(fit(Book.read(text)).stem)[0].level, found[0].level)
+        for turn, squared in ((Ratio(13, 34), Ratio(1, 10 ** 5)), (Ratio(7, 60), Ratio(1, 10 ** 6)), (Ratio(355, 1130), Ratio(1, 10 ** 7)), (Ratio(-29, 12), Ratio(1, 900))):
+            deep = Book(TurnIs(turn).told + (Told.least(Row(-1, 0, turn * turn + squared)),))
+            found = self.check(deep, turn.below, turn.below + 1, 60)
+            self.assertEqual(found[0], nets_of(Stem(turn, turn * turn + squared))[0])
+            self.assertFalse(fit(Book(deep.told + IsNet(found[0].parent).told)))
         self.assertEqual(self.check(Book(IsNet(Net(A, C)).told), 0, 1, 60)[0], Net(B, C))
         self.assertEqual(len(self.check(book_of(AsLong(A, C), AsLong(C, B)), 0, 1, 60)), 1)
         self.assertEqual([str(net) for net in self.check(book_of(RightAngle(A, C)), 0, 1, 60)], ["1 0 2 1", "3 1 2 1"])

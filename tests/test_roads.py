@@ -73,7 +73,7 @@ class Roads(unittest.TestCase):
     def test_wrong(self):
         whole = (lambda value: type(value) is int, BadRoad)
         check_wrong(self, Road, ("whole", whole, 0), ("runs", (lambda value: value in ([], (), [1], (1, 2)), BadRoad), [1]), ("kind", (lambda value: False, BadRoad), "open"))
-        for wrong in ([0], [-1], [1, 0], [0, 0], [1, -1], [0, 1, 0], [1, True], [True], [Ratio(1)], ["1"], [[1]], "11", (1, None), {1: 1}):
+        for wrong in ([0], [-1], [1, 0], [0, 0], [1, -1], [0, 1, 0], [-1, 1], [-2, 3, 1], [1, True], [True], [Ratio(1)], ["1"], [[1]], "11", (1, None), {1: 1}):
             for kind in ("open", "edge", None):
                 check_raises(self, BadRoad("runs"), Road, 0, wrong, kind)
         for kind in ("edge", "first"):
