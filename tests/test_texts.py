@@ -339,8 +339,11 @@ class Read(unittest.TestCase):
         for reader, before, after in (
             (Step, "", " 1"), (Step, "1 ", ""), (Table, "1 ", " 0 1"), (Row, "0 0 ", ""), (Stem, "", f" {LONG}/2"),
             (Stem, "0 ", ""), (Net, "1 ", " 0 1"), (Told, "zero 0 ", " 0"), (Ratio, "", ""),
+            (Saying, "turnis -", "/10"), (Saying, "shorter 1 ", " 1 0"), (Saying, "nolonger 3 1 1/", ""), (Saying, "isnet 1 0 ", " 1"),
+            (Saying, "rows least ", " 0 0"), (Road, "", " edge"), (Road, "-", " open 0 3"), (Road, "0 ended 1 ", ""), (Window, "0 1/", ""),
+            (Window, "-1/", " 1/2"), (Heights, "- | least 0 0 ", " ; 1 0 zero"),
         ):
-            word = len(before.split(" ")) - 1
+            word = before.count(" ")
             due = before + LONG + after
             if reader is Stem and before == "":
                 # The square of so great a turn is longer than a number in a text may be.
