@@ -8,7 +8,6 @@ from spiralsays.fits import Kept, OneStep, Simplest, fit, simplest_turn
 from spiralsays.papers import Denial, Paper
 from spiralsays.ratios import Ratio
 from spiralsays.rises import Endless, Highest, Reached, greatest_rise
-from spiralsays.rows import Row, Told
 from spiralsays.stems import Stem
 from spiralsays.steps import Step
 from helpers import ANY, check_wrong, fraction, is_one_step, is_ratio, keeps, ratio

@@ -187,7 +187,7 @@ class Sayings(unittest.TestCase):
     def test_lengths_are_squared(self):
         self.assertEqual(str(NoLonger(B, Ratio(1, 2)).told[0]), "least -1 0 1/4")
         self.assertEqual(str(Longer(B, 2).told[0]), "above 1 0 -4")
-        self.assertEqual(Fraction(1, 4), worth(NoLonger(ROUND, Ratio(5, 4)).told[0], STEMS[0]) - Fraction(5, 16))
+        self.assertEqual(worth(NoLonger(ROUND, Ratio(5, 4)).told[0], STEMS[0]), Fraction(9, 16))
 
 
 if __name__ == "__main__":
