@@ -165,8 +165,8 @@ def take_heights(words):
         words.take()
         books.append(take_book(words))
     ties = []
-    # Of one height alone there is no tie.
-    if words.has_next(";") and len(books) > 1:
+    # Behind one book alone the word may stand, too: it is the numbers of a tie that are none of its heights.
+    if words.has_next(";"):
         words.take()
         ties.append(take_tie_up_to(words, len(books) - 1))
         while words.has_next(",") and len(ties) < MOST_TIES:
