@@ -1,7 +1,7 @@
 """Whether any value is what fit_counts or word_counts may return."""
 
 from spiralsays.cases import cases_asked, is_thing, need_asked, told_of_cases
-from spiralsays.check_words import are_kept, are_right_with
+from spiralsays.check_words import are_kept, are_shown
 from spiralsays.checks import is_list
 from spiralsays.sums import is_right
 from spiralsays.told_counts import KeptCounts, NoStretch, need_count_book
@@ -29,13 +29,8 @@ def shows_word_counts(count_book, saying, value):
         return is_so_at(saying, value.kept) and not is_so_at(saying, value.broken)
     if not isinstance(value, (Always, Nowhere)):
         return False
-    entries = value.papers if isinstance(value, Always) else value.paper
     cases = cases_asked(count_book.book, count_book.window, count_book.things, saying)
-    if not is_list(entries) or len(entries) != len(cases):
-        return False
-    if isinstance(value, Always):
-        return all([is_denied(case, saying, entry) for case, entry in zip(cases, entries)])
-    return all([is_never(case, saying, entry) for case, entry in zip(cases, entries)])
+    return are_entries(cases, is_thing(saying), value)
 
 
 def is_so_at(asked, stem):
@@ -43,15 +38,25 @@ def is_so_at(asked, stem):
     return asked.holds(stem) if is_thing(asked) else are_kept(asked.told, stem)
 
 
-def is_denied(case, asked, entry):
-    """Whether any value has right OneSteps with all contraries: a line, of a saying one for each told one."""
-    lines = (entry,) if is_thing(asked) else entry
+def are_entries(cases, of_thing, value):
+    """Whether an Always or a Nowhere has right papers for each of some cases, of a counted thing or of a saying."""
+    entries = value.papers if isinstance(value, Always) else value.paper
+    if not is_list(entries) or len(entries) != len(cases):
+        return False
+    if isinstance(value, Always):
+        return all([is_denied(case, of_thing, entry) for case, entry in zip(cases, entries)])
+    return all([is_never(case, of_thing, entry) for case, entry in zip(cases, entries)])
+
+
+def is_denied(case, of_thing, entry):
+    """Whether any value has right papers with all contraries: a line, of a saying one for each told one."""
+    lines = (entry,) if of_thing else entry
     if not is_list(lines) or len(lines) != len(case.against):
         return False
-    return all([are_right_with(case.told, put_in, line) for put_in, line in zip(case.against, lines)])
+    return all([are_shown(case.proof, put_in, line) for put_in, line in zip(case.against, lines)])
 
 
-def is_never(case, asked, entry):
-    """Whether any value is the right OneStep with what is asked; of a thing a line of one, or of none."""
-    line = entry if is_thing(asked) else (entry,)
-    return are_right_with(case.told, case.wholes, line)
+def is_never(case, of_thing, entry):
+    """Whether any value is the right paper with what is asked; of a thing a line of one, or of none."""
+    line = entry if of_thing else (entry,)
+    return are_shown(case.proof, case.wholes, line)

@@ -3,7 +3,6 @@
 from math import gcd
 
 from spiralsays.books import need_book
-from spiralsays.cuts_on_lines import Place
 from spiralsays.errors import Impossible
 from spiralsays.fractions import parents
 from spiralsays.limits import limits_of
@@ -11,7 +10,7 @@ from spiralsays.papers import Denial, Paper
 from spiralsays.ratios import Ratio, added, need_ratio
 from spiralsays.room import simplest_stem
 from spiralsays.rows import Row, Told
-from spiralsays.solving import Never, Summit, bound_at, pairs_at, solved, turn_at
+from spiralsays.solving import Never, Summit, bound_at, pairs_at, solved, turn_at, turn_place
 from spiralsays.steps import Step
 
 
@@ -90,10 +89,7 @@ def fit_of(told):
     denial = denial_of(told, found)
     if denial is not None:
         return denial
-    if not isinstance(found, Summit):
-        return Kept(simplest_stem(limits, found.turns))
-    spot = found.spot
-    return Kept(simplest_stem(limits, Place(spot.turn, spot.turn_drift, spot.bottom)))
+    return Kept(simplest_stem(limits, turn_place(found)))
 
 
 def is_possible(told):

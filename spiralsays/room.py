@@ -20,30 +20,36 @@ class Squares:
     def __init__(self, limits, top, bottom):
         self.low = End(top * top, bottom * bottom, False)
         self.high = None
-        self.is_empty = False
+        self.is_barred = False
         for limit in limits:
             self.narrow(limit, limit.b * top + limit.c * bottom, bottom)
-        if self.high is not None and not self.is_empty:
-            far = compared_ends(self.low, self.high)
-            self.is_empty = far > 0 or (far == 0 and not (self.low.is_in and self.high.is_in))
 
     def narrow(self, limit, worth, bottom):
         """A limit leaves the E with which a times bottom times E, and worth, are at least 0 or above."""
-        if limit.a == 0:
-            if worth < 0 or (worth == 0 and limit.strict == 1):
-                self.is_empty = True
-            return
-        end = End(-worth if limit.a > 0 else worth, abs(limit.a) * bottom, limit.strict == 0)
         if limit.a > 0:
-            far = compared_ends(end, self.low)
-            if far > 0 or (far == 0 and not end.is_in):
-                self.low = end
-        elif self.high is None:
+            self.rise_to(End(-worth, limit.a * bottom, limit.strict == 0))
+        elif limit.a < 0:
+            self.sink_to(End(worth, -limit.a * bottom, limit.strict == 0))
+        elif worth < 0 or (worth == 0 and limit.strict == 1):
+            self.is_barred = True
+
+    def rise_to(self, end):
+        """Nothing below this end is left."""
+        far = compared_ends(end, self.low)
+        if far > 0 or (far == 0 and not end.is_in):
+            self.low = end
+
+    def sink_to(self, end):
+        """Nothing above this end is left."""
+        far = -1 if self.high is None else compared_ends(end, self.high)
+        if far < 0 or (far == 0 and not end.is_in):
             self.high = end
-        else:
-            far = compared_ends(self.high, end)
-            if far > 0 or (far == 0 and not end.is_in):
-                self.high = end
+
+    def is_empty(self):
+        if self.is_barred or self.high is None:
+            return self.is_barred
+        far = compared_ends(self.low, self.high)
+        return far > 0 or (far == 0 and not (self.low.is_in and self.high.is_in))
 
     def side_of(self, top, bottom):
         asked = End(top, bottom, True)
@@ -64,10 +70,15 @@ class Turns:
         self.at_hand = at_hand
 
     def side_of(self, top, bottom):
-        if not Squares(self.limits, top, bottom).is_empty:
+        if not Squares(self.limits, top, bottom).is_empty():
             return 0
-        far = top * self.at_hand.bottom - self.at_hand.number * bottom
-        return sign_of(far) if far != 0 else -sign_of(self.at_hand.drift)
+        return side_of_place(self.at_hand, top, bottom)
+
+
+def side_of_place(place, top, bottom):
+    """-1 or 1, as a ratio lies below or above the place, be it by a trifle."""
+    far = top * place.bottom - place.number * bottom
+    return sign_of(far) if far != 0 else -sign_of(place.drift)
 
 
 def compared_ends(one, other):

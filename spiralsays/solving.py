@@ -61,6 +61,13 @@ def bound_at(spot):
     return squared_at(spot) - turn_at(spot) * turn_at(spot)
 
 
+def turn_place(found):
+    """The place of a turn that is left, of a Summit or a Boundless."""
+    if isinstance(found, Summit):
+        return Place(found.spot.turn, found.spot.turn_drift, found.spot.bottom)
+    return found.turns
+
+
 def pairs_at(summit):
     """The holders with weights: they add up to the bound, less E - 2 turn D + turn turn."""
     double = turn_at(summit.spot) * 2

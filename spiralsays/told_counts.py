@@ -1,13 +1,12 @@
 """Books with a window and counted things: whether they can be, and what holds over them."""
 
 from spiralsays.books import need_book
-from spiralsays.cases import cases_asked, is_thing, need_asked, told_of_cases
+from spiralsays.cases import cases_asked, is_thing, need_asked, told_of_cases, word_of_cases
 from spiralsays.cuts import need_few_cuts, need_things
 from spiralsays.errors import BadCounted, Impossible, TooMany
 from spiralsays.fits import fit_of
 from spiralsays.papers import Denial, Paper
 from spiralsays.windows import need_window
-from spiralsays.words import Always, Both, Nowhere
 
 MOST_THINGS = 6
 
@@ -76,33 +75,4 @@ def word_counts(count_book, saying):
     found = fit_counts(count_book)
     if not found:
         raise Impossible(found)
-    cases = cases_asked(count_book.book, count_book.window, count_book.things, saying)
-    against = papers_of(cases, [case.against for case in cases])
-    broken = stem_among(against)
-    if broken is None:
-        return Always([entry[0] if is_thing(saying) else entry for entry in against])
-    together = papers_of(cases, [[case.wholes] for case in cases])
-    kept = stem_among(together)
-    if kept is None:
-        return Nowhere([entry[0] if is_thing(saying) else entry[0][0] for entry in together])
-    return Both(kept, broken)
-
-
-def papers_of(cases, entries):
-    """For each case lines of papers, with what is put in; the last one has a Kept if there is one."""
-    found = []
-    for case, lines in zip(cases, entries):
-        found.append([[case.fit_with(more) for more in line] for line in lines])
-        if stem_among(found[-1:]) is not None:
-            break
-    return found
-
-
-def stem_among(entries):
-    """The stem of the first Kept in lines of papers, None without one."""
-    for entry in entries:
-        for line in entry:
-            for paper in line:
-                if paper:
-                    return paper.stem
-    return None
+    return word_of_cases(cases_asked(count_book.book, count_book.window, count_book.things, saying), saying)

@@ -1,10 +1,11 @@
 """The road of a book: the way of the nets that all its turns have in common."""
 
-from spiralsays.fits import fit_of, simplest_turn
-from spiralsays.fractions import runs_of
+from spiralsays.fits import need_possible, told_at_least, told_at_most
+from spiralsays.fractions import parents, runs_of
 from spiralsays.papers import Denial, Paper
 from spiralsays.roads import Road, road_of
 from spiralsays.sayings import TurnAbove, TurnBelow
+from spiralsays.words import BookGround
 
 
 class SureRoad(Paper):
@@ -32,14 +33,23 @@ class Roadless(Denial):
 
 
 def sure_road(book):
-    simple = simplest_turn(book)
-    stem, turn = simple.stem, simple.turn
-    below = fit_of(book.told + TurnBelow(turn).told)
-    above = fit_of(book.told + TurnAbove(turn).told)
+    need_possible(book)
+    return road_over(BookGround(book.told))
+
+
+def road_over(ground):
+    """The road of all turns over a ground that is possible."""
+    here = ground.held(ground.fit_with(()))
+    turn = here.turn
+    below = ground.fit_with(TurnBelow(turn).told)
+    above = ground.fit_with(TurnAbove(turn).told)
     if not below and not above:
-        return Ended(road_of(turn), below, above, stem)
-    one, other = (below.stem, stem) if below else (stem, above.stem)
+        return Ended(road_of(turn), below, above, here)
+    one, other = (ground.held(below), here) if below else (here, ground.held(above))
     if turn.is_whole:
         return Roadless(one, other)
     # All turns lie between the parents of the simplest one, and this is where the letters part.
-    return SureRoad(Road(turn.below, runs_of(turn), "open"), simple.low, simple.high, one, other)
+    low, high = parents(turn)
+    low_paper = ground.fit_with((told_at_most(low),))
+    high_paper = ground.fit_with((told_at_least(high),))
+    return SureRoad(Road(turn.below, runs_of(turn), "open"), low_paper, high_paper, one, other)

@@ -1,8 +1,9 @@
 """The word of a saying over a possible book: always, nowhere or both."""
 
 from spiralsays.books import need_book
-from spiralsays.fits import fit_of, need_possible
+from spiralsays.fits import OneStep, fit_of, need_possible
 from spiralsays.papers import Denial, Paper
+from spiralsays.ratios import Ratio
 from spiralsays.sayings import need_saying
 
 
@@ -30,6 +31,24 @@ class Both(Paper):
         self.kept, self.broken = self.parts
 
 
+class BookGround:
+    """Told ones of which something is asked: what is put in stands behind them."""
+
+    def __init__(self, told):
+        self.told = told
+
+    def fit_with(self, more):
+        return fit_of(self.told + more)
+
+    def held(self, paper):
+        """What of a Kept stands in a Both."""
+        return paper.stem
+
+    def widened(self, paper, many):
+        """What denies them denies them with so many more put in."""
+        return OneStep(paper.weights + (Ratio(0),) * many, paper.step, paper.times, paper.rest)
+
+
 def word_of(book, saying):
     need_book(book, "book")
     need_saying(saying, "saying")
@@ -39,17 +58,17 @@ def word_of(book, saying):
 
 def word_among(told, asked):
     """The word of what is asked, told ones that hold together, over told ones that some stem keeps."""
+    return word_over(BookGround(told), asked)
+
+
+def word_over(ground, asked):
+    """The word of what is asked, told ones or ties that hold together, over a ground that is possible."""
     lines = []
     for one in asked:
-        line = [fit_of(told + (contrary,)) for contrary in one.contrary()]
+        line = [ground.fit_with((contrary,)) for contrary in one.contrary()]
         for paper in line:
             if paper:
-                return word_beside(told, asked, paper.stem)
+                whole = ground.fit_with(asked)
+                return Both(ground.held(whole), ground.held(paper)) if whole else Nowhere(whole)
         lines.append(line)
     return Always(lines)
-
-
-def word_beside(told, asked, broken):
-    """The word, where a stem is known that keeps the told ones and not what is asked."""
-    found = fit_of(told + asked)
-    return Both(found.stem, broken) if found else Nowhere(found)

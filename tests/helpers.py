@@ -10,10 +10,12 @@ from spiralsays.papers import Denial, Paper
 from spiralsays.ratios import Ratio
 from spiralsays.roads import Road
 from spiralsays.rows import Row, Told
-from spiralsays.sayings import IsNet, LeansRight, Rows, Saying, Shorter, TurnIs
+from spiralsays.sayings import IsNet, LeansRight, Rows, Saying, Shorter, TurnAbove, TurnAtLeast, TurnAtMost, TurnBelow, TurnIs
 from spiralsays.stems import Stem
 from spiralsays.steps import Step
 from spiralsays.tables import Table
+from spiralsays.tied_counts import CountHeights
+from spiralsays.tied_fits import KeptHeights
 from spiralsays.told_counts import CountBook
 from spiralsays.windows import Window
 from spiralsays.errors import (
@@ -27,10 +29,10 @@ ANY = [
     None, True, False, 0, 1, 5, -3, 10 ** 80, 1.5, "", "1", "1/2", "1 0", b"1", [], (), [1], (1, 2), [None], {},
     {1: 2}, object(), Ratio(1, 2), Ratio(7), Step(1, 0), Step(0, -2), [Step(1, 0)], Stem(0, 1), Table.same(),
     Net.first(0), ROW, Told.zero(ROW), [Told.zero(ROW)], (Told.zero(ROW), ROW), Book(), Paper("one"), Denial("two", 1),
-    Shorter(Step(1, 0), Step(2, 1)), LeansRight(Step(3, 1)), TurnIs(Ratio(1, 3)), Rows([Told.zero(ROW)]), [IsNet(Net.first(0))],
+    Shorter(Step(1, 0), Step(2, 1)), LeansRight(Step(3, 1)), TurnIs(Ratio(1, 3)), Rows([Told.zero(ROW)]), [IsNet(Net.first(0))], [Net.first(1)],
     Road(0, [1, 1], "open"), Road(1, [], "edge"), Window(0, 1), RightLeft(3, 2), OneWay(5, "left"), [SeenBoth(2, 3)],
     (NearerStud(1, 2), OneWay(1, "right")), CountBook(Book(), Window(0, 1), [RightLeft(3, 2)]), Tie(0, 1, "zero"), [Tie(0, 1, "above")],
-    Heights([Book()]), [Book(), Book()],
+    Heights([Book()]), [Book(), Book()], CountHeights(Heights([Book()]), Window(0, 1), [[OneWay(2, "right")]]), [[RightLeft(3, 2)], []], KeptHeights(0, [1]),
 ]
 
 
@@ -81,6 +83,12 @@ KINDS = {
     "some things": (lambda value: is_list_of(Counted)(value) and len(value) > 0, BadCounted),
     "count": (lambda value: is_integer(value) and 1 <= value <= 21, BadCounted),
     "count book": (is_a(CountBook), BadCounted),
+    "count heights": (is_a(CountHeights), BadCounted),
+    "turn saying": (is_a((TurnAtMost, TurnAtLeast, TurnBelow, TurnAbove, TurnIs)), BadSaying),
+    "nets": (lambda value: is_list_of(Net)(value) and len(value) > 0, BadNet),
+    "carriable": (is_a((Step, Stem, Row, Told, Book, Saying)), BadSaying),
+    "stretchable": (is_a((Stem, Row, Told, Book, Saying)), BadSaying),
+    "many": (lambda value: is_integer(value) and value >= 1, BadNumber),
     "saying or thing": (is_a((Saying, Counted)), BadSaying),
     "heights": (is_a(Heights), BadHeights),
     "tie": (is_a(Tie), BadTie),

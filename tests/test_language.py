@@ -289,6 +289,9 @@ LISTED = {
         "Tie": "__init__ contrary __eq__ __str__ read",
         "Heights": "__init__ __len__ with_told with_tie alone holds __eq__ __str__ read",
     },
+    "tied_fits": {"KeptHeights": "__init__", "OneStepHeights": "__init__"},
+    "tied_counts": {"CountHeights": "__init__ __eq__"},
+    "rolled": {"Unalike": "__init__"},
 }
 FUNCTIONS = {
     "checks": "is_integer is_within is_name", "ratios": "is_ratio added least_of greatest_of", "papers": "fixed",
@@ -301,6 +304,11 @@ FUNCTIONS = {
     "roads": "road_of road_at net_at turns_of is_ahead common", "falling": "falling nets_between", "turns": "sure_road",
     "check_roads": "shows_road", "cuts": "cuts stretches", "told_counts": "fit_counts word_counts",
     "check_counts": "shows_counts shows_word_counts", "ties": "tied equal_heights",
+    "tied_fits": "fit_heights word_heights word_turn word_tie is_surer", "tied_counts": "fit_count_heights word_count_heights",
+    "orders": "seen_in_order sure_road_of",
+    "check_heights": "shows_heights shows_word_heights shows_word_tie shows_count_heights shows_word_count_heights shows_road_of",
+    "carried": "carried_stem carried_row carried_told carried_book carried_saying", "mirrored": "mirrored put_on",
+    "thinned": "thinned thick", "rolled": "rolled sheets_alike each_rolled", "check_new": "shows_alike",
 }
 
 
