@@ -46,7 +46,7 @@ def sheets_alike(one, other):
     first, second = here
     if one.product(first, second).sign * other.product(there[0], there[1]).sign < 0:
         second = -second
-    return Table(told_by((first, second), there, Step(1, 0)), told_by((first, second), there, Step.one_round()))
+    return Table(counterpart((first, second), there, Step(1, 0)), counterpart((first, second), there, Step.one_round()))
 
 
 def ratios_of(stem, pair):
@@ -56,7 +56,7 @@ def ratios_of(stem, pair):
     return (stem.square(other).over(square), abs(stem.product(one, other)).over(square))
 
 
-def told_by(pair, beside, step):
+def counterpart(pair, beside, step):
     """The step that is told by a pair of neighbours as the step is by the pair beside."""
     one, other = beside
     sign = cross(one, other)

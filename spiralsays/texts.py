@@ -17,16 +17,26 @@ def integer_of(word):
 
 
 class Words:
-    """The words of a text, and how many of them are read."""
+    """The words of a text up to the one where it ends, and how many of them are read."""
 
-    def __init__(self, text):
-        if not isinstance(text, str):
-            raise BadText(0, 0)
-        self.words = text.split(" ")
-        self.done = 0
+    def __init__(self, words, done, last):
+        self.words = words
+        self.done = done
+        self.last = last
 
     def is_over(self):
-        return self.done == len(self.words)
+        return self.done == self.last
+
+    def up_to(self, word):
+        """The words from here to the next such word, it left out, or to the end: to be read by themselves."""
+        last = self.done
+        while last < self.last and self.words[last] != word:
+            last += 1
+        return Words(self.words, self.done, last)
+
+    def skip_to(self, other):
+        """What was read of the words from here is read here, too."""
+        self.done = other.done
 
     def has_next(self, word):
         return not self.is_over() and self.words[self.done] == word
@@ -53,9 +63,17 @@ class Words:
             raise BadText(0, self.done)
 
 
+def words_in(text):
+    """The words of any value that is a text."""
+    if not isinstance(text, str):
+        raise BadText(0, 0)
+    words = text.split(" ")
+    return Words(words, 0, len(words))
+
+
 def read_whole(text, take):
     """What take makes of the words of a text, all of them."""
-    words = Words(text)
+    words = words_in(text)
     value = take(words)
     words.end()
     return value

@@ -15,7 +15,6 @@ from spiralsays.orders import sure_road_of
 from spiralsays.papers import Denial, Paper
 from spiralsays.ratios import Ratio
 from spiralsays.roads import Road
-from spiralsays.rows import Row, Told
 from spiralsays.sayings import LeansRight, Nearest, Rows, TurnAbove, TurnBelow, TurnIs
 from spiralsays.stems import Stem
 from spiralsays.steps import Step
@@ -30,7 +29,7 @@ from heights_by_hand import (
     other_ways_tied, tie,
 )
 from helpers import ANY, check_raises, check_wrong
-from some_sayings import A, B, C, SAYINGS
+from some_sayings import A, C, SAYINGS
 from test_orders import POSSIBLE, is_road_tied, short
 from test_tied_counts import ASKED, COUNTED, SEEN, UNIT, is_counted, is_word_counted, keeps_counted
 from test_tied_fits import OF_TURNS, TIES

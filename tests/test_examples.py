@@ -66,7 +66,8 @@ class Examples(unittest.TestCase):
             "ratios papers steps pairs tables fractions stems nets laid stem_nets spirals check_stems rows fits rises "
             "sayings words several tight check_words net_words map_pieces check_nets roads "
             "falling turns check_roads windows counted cuts told_counts check_counts heights ties "
-            "tied_fits tied_counts orders check_heights carried mirrored thinned rolled check_new"
+            "tied_fits tied_counts orders check_heights carried mirrored thinned rolled check_new "
+            "clashes strikes measures offers check_choice paper_texts reader desk"
         ).split():
             self.assertIn(part, parts)
 

@@ -74,8 +74,9 @@ def classes():
 
 
 def stored(tree):
-    """Names that are assigned, and names of parameters."""
+    """Names that are assigned, of caught errors too, and names of parameters."""
     names = {node.id for node in ast.walk(tree) if isinstance(node, ast.Name) and isinstance(node.ctx, ast.Store)}
+    names |= {node.name for node in ast.walk(tree) if isinstance(node, ast.ExceptHandler) and node.name}
     return names | {node.arg for node in ast.walk(tree) if isinstance(node, ast.arg)}
 
 
@@ -292,6 +293,11 @@ LISTED = {
     "tied_fits": {"KeptHeights": "__init__", "OneStepHeights": "__init__"},
     "tied_counts": {"CountHeights": "__init__ __eq__"},
     "rolled": {"Unalike": "__init__"},
+    "clashes": {"Clash": "__init__"},
+    "strikes": {"Struck": "__init__", "NotStruck": "__init__"},
+    "measures": {"EnoughRows": "__init__", "StillBoth": "__init__"},
+    "offers": {"Cheapest": "__init__", "Follows": "__init__"},
+    "desk": {"Desk": "__init__ tell run back names value_of __len__ __contains__ lines"},
 }
 FUNCTIONS = {
     "checks": "is_integer is_within is_name", "ratios": "is_ratio added least_of greatest_of", "papers": "fixed",
@@ -309,6 +315,10 @@ FUNCTIONS = {
     "check_heights": "shows_heights shows_word_heights shows_word_tie shows_count_heights shows_word_count_heights shows_road_of",
     "carried": "carried_stem carried_row carried_told carried_book carried_saying", "mirrored": "mirrored put_on",
     "thinned": "thinned thick", "rolled": "rolled sheets_alike each_rolled", "check_new": "shows_alike",
+    "clashes": "clash", "strikes": "strikes", "measures": "told_by outcomes enough next_row", "offers": "cheapest offers",
+    "check_choice": "shows_clash shows_strikes shows_enough shows_cheapest shows_offers",
+    "paper_kinds": "kind_words part_names made paper_kind", "paper_texts": "paper_text read_paper",
+    "reader": "kind_of value_text read_value is_shown", "whole": "told_whole shows_whole",
 }
 
 
