@@ -2,7 +2,6 @@
 
 from spiralsays.books import Book
 from spiralsays.carried import carried_book, carried_row, carried_saying, carried_stem, carried_told
-from spiralsays.checks import need_integer
 from spiralsays.errors import BadSaying
 from spiralsays.rows import Row, Told
 from spiralsays.sayings import Saying
@@ -18,7 +17,6 @@ def mirrored(value):
 
 def put_on(value, times):
     need_carriable(value)
-    need_integer(times, "times")
     return carried(value, Table.put_on(times))
 
 

@@ -132,7 +132,6 @@ def take_closed_plain(words):
         words.refuse()
     inside = words.up_to(">")
     value = take_plain(inside, kind)
-    inside.end()
     words.skip_to(inside)
     take_closing(words, ">")
     return value

@@ -4,7 +4,6 @@ from math import gcd, lcm
 
 from spiralsays.carried import carried_stem
 from spiralsays.checks import need_within
-from spiralsays.errors import Common
 from spiralsays.pairs import cross, mate
 from spiralsays.papers import Denial
 from spiralsays.stem_nets import nearest_two
@@ -26,8 +25,6 @@ class Unalike(Denial):
 def rolled(stem, around):
     need_stem(stem, "stem")
     need_step(around, "around")
-    if around.divisor > 1:
-        raise Common(around.divisor)
     stud = mate(around)
     # Each around more in the stud is a round less in the turn.
     rounds = (-stem.product(stud, around).over(stem.square(around))).below

@@ -151,6 +151,7 @@ class Books(unittest.TestCase):
 
     def test_wrong(self):
         check_wrong(self, carried_book, ("book", "book", BOOKS[3]), ("table", "table", TABLES[6]))
+        check_wrong(self, carried_book, ("book", "book", Book()), ("table", "table", TABLES[6]))
 
 
 class Sayings(unittest.TestCase):

@@ -94,6 +94,9 @@ class ShowsClash(unittest.TestCase):
             ([0, Ratio(1), 2], False), (["0", 1, 2], False), ({0: 1, 1: 2, 2: 3}, False), ("012", False), (None, False), ([0, True, 2], False),
         ):
             self.assertIs(shows_clash(ODD, Clash(numbers, right)), due, numbers)
+        # The weights in the order of the numbers, but these do not ascend.
+        for numbers, weights in (([0, 2, 1], (8, 14, 3)), ([1, 0, 2], (3, 8, 14)), ([2, 1, 0], (14, 3, 8)), ([0, 1, 2, 2], (8, 3, 7, 7)), ([0, 1, 1, 2], (8, 1, 2, 14))):
+            self.assertIs(shows_clash(ODD, Clash(numbers, OneStep(weights, None, 0, 0))), False)
         self.assertIs(shows_clash(Book(FREE), Clash([], OneStep([], None, 0, 1))), False)
         self.assertIs(shows_clash(EVEN, Kept(Stem(Ratio(1, 3), Ratio(2, 15)))), True)
         self.assertIs(shows_clash(ODD, Kept(Stem(Ratio(1, 3), Ratio(2, 15)))), False)
@@ -290,6 +293,11 @@ class ShowsOffers(unittest.TestCase):
         always, nowhere, both = paper.parts
         self.assertIs(shows_offers(AT_TURN, self.TOLD, Follows(other_way(always), other_way(nowhere), both)), True)
         for parts in ((always[::-1], nowhere, both), (always + always[:1], nowhere, both), (always, both, nowhere), (always[1:], nowhere, both), (always, nowhere, both + always[:1]), (nowhere, always, both)):
+            self.assertIs(shows_offers(AT_TURN, self.TOLD, Follows(*parts)), False)
+        # A pair in another list than that of its word.
+        for at, beside in ((0, 1), (0, 2), (1, 0), (1, 2), (2, 0), (2, 1)):
+            parts = [list(part) for part in paper.parts]
+            parts[beside] = sorted(parts[beside] + [parts[at].pop()], key=lambda pair: pair[0])
             self.assertIs(shows_offers(AT_TURN, self.TOLD, Follows(*parts)), False)
         self.assertIs(shows_offers(AT_TURN, [], Follows([], [], [])), True)
         # Of an impossible book both words are so; no Both.

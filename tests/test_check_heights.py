@@ -240,7 +240,7 @@ class ShowsCounts(unittest.TestCase):
             key = (paper.word, isinstance(asked, (RightLeft, SeenBoth, OneWay, NearerStud)))
             if words.get(key, 0) < 1 and (paper.word == "both" or len(paper.parts[0]) < 4):
                 words[key] = words.get(key, 0) + 1
-                for bent in bends_of_paper(paper, 1):
+                for bent in bends_of_paper(paper, 1)[::3]:
                     self.assertIs(shows_word_count_heights(count_heights, height, asked, bent), is_word_counted(count_heights, height, asked, bent), (str(asked), bent.parts))
         self.assertEqual(len(words), 6)
 
@@ -255,7 +255,8 @@ class ShowsCounts(unittest.TestCase):
             if fit_count_heights(count_heights):
                 paper = word_count_heights(count_heights, height, asked)
                 if paper.word == "both":
-                    self.assertIs(shows_word_count_heights(count_heights, height, asked, Both(paper.broken, paper.kept)), False)
+                    for one, other in ((paper.broken, paper.kept), (paper.kept, paper.kept), (paper.broken, paper.broken)):
+                        self.assertIs(shows_word_count_heights(count_heights, height, asked, Both(one, other)), False)
                 else:
                     self.assertIs(shows_word_count_heights(count_heights, height, asked, type(paper)(other_way_tied(paper.parts[0]))), True)
                     self.assertIs(shows_word_count_heights(count_heights, height, asked, type(paper)(paper.parts[0] + paper.parts[0][:1])), False)

@@ -6,19 +6,28 @@ import time
 import unittest
 
 from spiralsays.books import Book
-from spiralsays.check_fits import shows_fit
+from spiralsays.check_choice import shows_clash
+from spiralsays.check_fits import shows_fit, shows_rise, shows_simplest
+from spiralsays.check_nets import shows_sure_nearest, shows_sure_net
+from spiralsays.check_roads import shows_road
+from spiralsays.clashes import clash
 from spiralsays.errors import BadPaper, BadText
-from spiralsays.fits import Kept, OneStep
+from spiralsays.fits import Kept, OneStep, fit, simplest_turn
+from spiralsays.map_pieces import sure_nearest
+from spiralsays.net_words import sure_net
 from spiralsays.paper_kinds import kind_words, made, paper_kind, part_names
 from spiralsays.paper_texts import paper_text, read_paper
 from spiralsays.papers import Denial, Paper
 from spiralsays.ratios import Ratio
 from spiralsays.reader import is_shown, kind_of, read_value, value_text
+from spiralsays.rises import greatest_rise
 from spiralsays.rows import Row, Told
 from spiralsays.stems import Stem
 from spiralsays.steps import Step
 from spiralsays.strikes import Struck
+from spiralsays.turns import sure_road
 from spiralsays.words import Always, Nowhere
+from choice_by_hand import BOOKS, ODD
 from helpers import ANY, check_raises, check_wrong
 from some_papers import CLASSES, PAPERS, PLAIN, SIX, UPRIGHT
 
@@ -175,6 +184,9 @@ class Texts(unittest.TestCase):
                 self.assertIs(type(found), type(paper))
                 self.assertEqual(found, paper)
                 self.assertEqual(paper_text(found), paper_text(paper))
+        # What is written as an integer is read as one, what is not as a Ratio.
+        self.assertEqual([type(one) for one in read_paper("kept ( 3 -1/2 - x )").stem], [int, Ratio, type(None), str])
+        self.assertIs(shows_clash(ODD, read_paper(paper_text(clash(ODD)))), True)
         for _, value in PLAIN:
             found = read_value(value_text(value))
             self.assertIs(type(found), type(value))
@@ -208,7 +220,8 @@ class Texts(unittest.TestCase):
             nested = Kept(nested)
         for paper in (Kept(lists(50, None)), Kept(lists(49, Stem(0, 1))), Kept(lists(48, Kept([1]))), Nowhere(nested), Kept(lists(25, Kept(lists(23, Step(1, 0)))))):
             text = paper_text(paper)
-            self.assertEqual(read_paper(text), paper)
+            self.assertEqual(value_text(paper), text)
+            self.assertEqual((read_paper(text), read_value(text)), (paper, paper))
             self.assertEqual(max(text.split(" ")[:at].count("(") + text.split(" ")[:at].count("[") + text.split(" ")[:at].count("<") for at in range(len(text.split(" ")) + 1)), 50)
         for paper in (Kept(lists(51, None)), Kept(lists(50, Stem(0, 1))), Kept(lists(49, Kept([1]))), Kept(Nowhere(nested)), Kept(lists(50, Kept(1))), Kept(lists(58, ())), Kept(lists(51, []))):
             check_raises(self, BadPaper("paper"), paper_text, paper)
@@ -310,6 +323,11 @@ class Reader(unittest.TestCase):
                 self.assertEqual(kind_of(value), due)
         for value in (None, 5, Ratio(1), "step", [Step(1, 0)], Paper("kept", 1), Step, object()):
             self.assertIsNone(kind_of(value))
+        # Of another class with the name of a plain one.
+        other = type("Step", (), {"__str__": lambda self: "3 1"})()
+        self.assertIsNone(kind_of(other))
+        check_raises(self, BadPaper("value"), value_text, other)
+        check_raises(self, BadPaper("paper"), paper_text, Kept(other))
 
     def test_wrong(self):
         check_wrong(self, lambda book: is_shown(book, None), ("book", "book", Book()))
@@ -317,17 +335,6 @@ class Reader(unittest.TestCase):
 
 class IsShown(unittest.TestCase):
     def test_by_the_checks(self):
-        from spiralsays.check_choice import shows_clash
-        from spiralsays.check_fits import shows_rise, shows_simplest
-        from spiralsays.check_nets import shows_sure_nearest, shows_sure_net
-        from spiralsays.check_roads import shows_road
-        from spiralsays.clashes import clash
-        from spiralsays.fits import fit, simplest_turn
-        from spiralsays.map_pieces import sure_nearest
-        from spiralsays.net_words import sure_net
-        from spiralsays.rises import greatest_rise
-        from spiralsays.turns import sure_road
-        from choice_by_hand import BOOKS
         checks = {
             "kept": shows_fit, "onestep": shows_fit, "simplest": shows_simplest, "highest": shows_rise, "endless": shows_rise, "surenet": shows_sure_net, "unsure": shows_sure_net,
             "surenearest": shows_sure_nearest, "sureroad": shows_road, "ended": shows_road, "roadless": shows_road, "clash": shows_clash,
