@@ -3,6 +3,7 @@
 from spiralsays.checks import is_name, is_within
 from spiralsays.reader import kind_of
 
+
 def take_new_name(words):
     name = words.take()
     if not is_name(name):
